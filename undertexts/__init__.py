@@ -1,0 +1,1 @@
+"""Captions: timed texts, moved, wrapped, shown."""
