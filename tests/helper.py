@@ -42,6 +42,38 @@ def stretch(p, q):
     return [7, 2, p, q, 0]
 
 
+def at(t):
+    return [8, 1, t, 0]
+
+
+def wrap(i, w):
+    return [9, 2, i, w, 0]
+
+
+def split(i, t, j):
+    return [10, 3, i, t, j, 0]
+
+
+def join(i):
+    return [11, 1, i, 0]
+
+
+def apart(g):
+    return [12, 1, g, 0]
+
+
+def fast(k):
+    return [13, 1, k, 0]
+
+
+def next_time(t):
+    return [14, 1, t, 0]
+
+
+def count():
+    return [15, 0, 0]
+
+
 def run(*calls):
     """The answer to each call, as a list."""
     handed = [number for call in calls for number in call]

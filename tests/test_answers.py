@@ -2,18 +2,23 @@
 
 import unittest
 
-from tests.helper import FARTHEST, add, caption, drop, get, move, read, run, shift, shown, stretch, text
+from tests.helper import BIGGEST, FARTHEST, TIMES_END
+from tests.helper import add, apart, at, caption, count, drop, fast, get, join, move, next_time, read, run, shift, shown
+from tests.helper import split, stretch, text, wrap
 from undertexts.captions import answers
 
 ALL = (read(caption(1, 2, b"a")) + text() + get(0) + get(9) + add(0, 5, b"b", b"cd") + add(0, 0, b"b") + drop(1)
        + drop(1) + move(0, 7) + move(0, -8) + shift(3) + shift(-FARTHEST) + stretch(3, 2) + stretch(0, 1)
-       + read(b"x") + text())
+       + read(b"x") + text() + wrap(0, 3) + wrap(0, 81) + split(0, 19, 1) + count() + add(13, 18, b"xy z")
+       + wrap(0, 1) + split(1, 18, 1) + join(1) + join(1) + at(16) + at(BIGGEST) + apart(1) + apart(TIMES_END)
+       + fast(600) + fast(BIGGEST) + next_time(14) + next_time(22) + count() + text())
 
 
 class Answers(unittest.TestCase):
     def test_how_many_numbers_then_these_for_each_call(self):
         first = caption(1, 2, b"a")
         then = b"00:00:00.015-00:00:00.022\nb\ncd\n\n"
+        at_last = caption(13, 14, b"x", b"y", b"z") + then
         self.assertEqual(answers(ALL), [
             1, 1,
             2 + len(first), 1, len(first), *first,
@@ -31,6 +36,25 @@ class Answers(unittest.TestCase):
             1, -1,
             4, -2, 2, 1, 0,
             2 + len(then), 1, len(then), *then,
+            1, 2,
+            1, -1,
+            1, 1,
+            3, 2, 1, 22,
+            1, 0,
+            1, 3,
+            1, -3,
+            1, 0,
+            1, -4,
+            4, 2, 2, 0, 1,
+            2, 0, 0,
+            1, 1,
+            1, -1,
+            3, 1, 1, 0,
+            2, 0, 0,
+            3, 0, 1, 15,
+            1, -5,
+            3, 2, 1, 22,
+            2 + len(at_last), 2, len(at_last), *at_last,
         ])
 
     def test_the_smallest_lists(self):
@@ -38,6 +62,14 @@ class Answers(unittest.TestCase):
         self.assertEqual(answers([0, 0, 1, 0]), [1, 0])
         self.assertEqual(answers([3, 2, 0, 1, 0]), [1, -1])
         self.assertEqual(answers([3, 2, 0, 1, 1, 0]), [1, -1])
+        self.assertEqual(answers([8, 1, 0, 0]), [2, 0, 0])
+        self.assertEqual(answers([9, 2, 0, 0, 0]), [1, -1])
+        self.assertEqual(answers([10, 3, 0, 0, 0, 0]), [1, -4])
+        self.assertEqual(answers([11, 1, 0, 0]), [1, -4])
+        self.assertEqual(answers([12, 1, 0, 0]), [1, 0])
+        self.assertEqual(answers([13, 1, 0, 0]), [2, 0, 0])
+        self.assertEqual(answers([14, 1, 0, 0]), [1, -5])
+        self.assertEqual(answers([15, 0, 0]), [3, 0, 1, 0])
 
     def test_only_whole_numbers_are_given_back(self):
         given = answers(ALL)
@@ -70,11 +102,20 @@ class Answers(unittest.TestCase):
         self.assertEqual(run(add(5, 6, b"b"), text())[0], [0])
 
     def test_refusals_change_nothing(self):
-        good = [read(caption(10, 20, b"a") + caption(15, 20, b"b")), add(12, 13, b"c")]
-        refused = [read(b"00"), get(3), add(1, 1, b"x"), drop(3), move(3, 1), move(0, -11), shift(-11),
-                   stretch(1, 100), stretch(0, 0)]
-        self.assertEqual(run(*good, *refused)[2:], [[-2, 2, 1, 2], [-4], [-1], [-4], [-4], [-3], [-3], [-3], [-1]])
-        self.assertEqual(shown(*good, *refused), shown(*good))
+        good = [read(caption(10, 20, b"a") + caption(15, 20, b"b", b"b", *[b" "] * 6)), add(12, 13, b"c"),
+                add(30, 40, b" ")]
+        refused = [(read(b"00"), [-2, 2, 1, 2]), (get(4), [-4]), (add(1, 1, b"x"), [-1]), (drop(4), [-4]),
+                   (move(4, 1), [-4]), (move(0, -11), [-3]), (shift(-11), [-3]), (stretch(1, 100), [-3]),
+                   (stretch(0, 0), [-1]), (wrap(0, 0), [-1]), (wrap(4, 1), [-4]), (wrap(3, 1), [-3]),
+                   (split(4, 16, 1), [-4]), (split(2, 20, 1), [-3]), (join(3), [-4]), (join(2), [-6]),
+                   (apart(TIMES_END), [-1]), (apart(2), [-3]), (next_time(40), [-5])]
+        for call, answer in refused:
+            with self.subTest(call=call):
+                self.assertEqual(run(*good, call)[3:], [answer])
+                self.assertEqual(shown(*good, call), shown(*good))
+        calls = [call for call, answer in refused]
+        self.assertEqual(run(*good, *calls)[3:], [answer for call, answer in refused])
+        self.assertEqual(shown(*good, *calls), shown(*good))
 
     def test_300_calls(self):
         calls = [add(1, 2, b"x"), drop(0), text()] * 100

@@ -1,6 +1,7 @@
 """Calls on captions, all in one list of whole numbers, and their answers."""
 
-from undertexts.steps import add, drop, get, move, read, shift, stretch, text
+from undertexts.questions import at, count, fast, get, next_time, text
+from undertexts.steps import add, apart, drop, join, move, read, shift, split, stretch, wrap
 
 READ = 0
 TEXT = 1
@@ -10,6 +11,14 @@ DROP = 4
 MOVE = 5
 SHIFT = 6
 STRETCH = 7
+AT = 8
+WRAP = 9
+SPLIT = 10
+JOIN = 11
+APART = 12
+FAST = 13
+NEXT = 14
+COUNT = 15
 
 
 class NoSuchCall(ValueError):
@@ -34,13 +43,25 @@ def parted(calls):
     return found
 
 
-def carried_out(captions, call, numbers, lists):
-    if call == READ:
-        return read(captions, lists[0])
+def asked(captions, call, numbers):
     if call == TEXT:
         return text(captions)
     if call == GET:
         return get(captions, numbers[0])
+    if call == AT:
+        return at(captions, numbers[0])
+    if call == FAST:
+        return fast(captions, numbers[0])
+    if call == NEXT:
+        return next_time(captions, numbers[0])
+    if call == COUNT:
+        return count(captions)
+    raise NoSuchCall(call)
+
+
+def carried_out(captions, call, numbers, lists):
+    if call == READ:
+        return read(captions, lists[0])
     if call == ADD:
         return add(captions, numbers[0], numbers[1], lists)
     if call == DROP:
@@ -51,7 +72,15 @@ def carried_out(captions, call, numbers, lists):
         return shift(captions, numbers[0])
     if call == STRETCH:
         return stretch(captions, numbers[0], numbers[1])
-    raise NoSuchCall(call)
+    if call == WRAP:
+        return wrap(captions, numbers[0], numbers[1])
+    if call == SPLIT:
+        return split(captions, numbers[0], numbers[1], numbers[2])
+    if call == JOIN:
+        return join(captions, numbers[0])
+    if call == APART:
+        return apart(captions, numbers[0])
+    return (captions, asked(captions, call, numbers))
 
 
 def answers(calls):

@@ -1,25 +1,17 @@
-"""The calls, each a step from captions to the captions then and an answer.
+"""The calls that change captions, each a step to the captions then and an answer.
 
 The captions that a step is given stay as they are, so a refusal gives them
 back.
 """
 
-from undertexts.form import MOST_CAPTIONS, Caption, are_lines, are_times
+from undertexts.answering import AT_FAULT, NO_ROOM, NO_SUCH_CAPTION, NOT_ALLOWED, NOT_POSSIBLE, with_length
+from undertexts.form import MOST_CAPTIONS, MOST_LINES, MOST_SIGNS, TIMES_END
+from undertexts.form import Caption, are_lines, are_times
 from undertexts.reading import Fault, read_captions
-from undertexts.writing import write_captions
-
-NOT_ALLOWED = -1
-AT_FAULT = -2
-OUT_OF_TIME = -3
-NO_SUCH_CAPTION = -4
-NO_ROOM = -6
+from undertexts.wrapping import wrapped
 
 MOST_BYTES = 16384
 MOST_STRETCH = 1000
-
-
-def with_length(row):
-    return [len(row)] + row
 
 
 def moved(caption, d):
@@ -37,11 +29,15 @@ def put_in(captions, caption):
     return (captions[:place] + [caption] + captions[place:], [place])
 
 
+def in_place(captions, i, caption):
+    return captions[:i] + [caption] + captions[i + 1:]
+
+
 # Asks all the captions before any takes the place of what was.
-def take_times(captions, changed):
+def take_times(captions, changed, number):
     if not all([are_times(caption.start, caption.stop) for caption in changed]):
-        return (captions, [OUT_OF_TIME])
-    return (changed, [0])
+        return (captions, [NOT_POSSIBLE])
+    return (changed, [number])
 
 
 def read(captions, data):
@@ -52,20 +48,6 @@ def read(captions, data):
     except Fault as fault:
         return (captions, [AT_FAULT] + with_length([fault.kind, fault.place]))
     return (found, [len(found)])
-
-
-def text(captions):
-    return (captions, [len(captions)] + with_length(write_captions(captions)))
-
-
-def get(captions, i):
-    if i >= len(captions):
-        return (captions, [NO_SUCH_CAPTION])
-    caption = captions[i]
-    answer = [len(caption.lines)] + with_length([caption.start, caption.stop])
-    for line in caption.lines:
-        answer.extend(with_length(line))
-    return (captions, answer)
 
 
 def add(captions, start, stop, lines):
@@ -87,15 +69,72 @@ def move(captions, i, d):
         return (captions, [NO_SUCH_CAPTION])
     caption = moved(captions[i], d)
     if not are_times(caption.start, caption.stop):
-        return (captions, [OUT_OF_TIME])
+        return (captions, [NOT_POSSIBLE])
     return put_in(captions[:i] + captions[i + 1:], caption)
 
 
 def shift(captions, d):
-    return take_times(captions, [moved(caption, d) for caption in captions])
+    return take_times(captions, [moved(caption, d) for caption in captions], 0)
 
 
 def stretch(captions, p, q):
     if p < 1 or p > MOST_STRETCH or q < 1 or q > MOST_STRETCH:
         return (captions, [NOT_ALLOWED])
-    return take_times(captions, [stretched(caption, p, q) for caption in captions])
+    return take_times(captions, [stretched(caption, p, q) for caption in captions], 0)
+
+
+def wrap(captions, i, w):
+    if w < 1 or w > MOST_SIGNS:
+        return (captions, [NOT_ALLOWED])
+    if i >= len(captions):
+        return (captions, [NO_SUCH_CAPTION])
+    caption = captions[i]
+    lines = wrapped(caption.lines, w)
+    if len(lines) == 0:
+        return (captions, [NOT_POSSIBLE])
+    if len(lines) > MOST_LINES:
+        return (captions, [NO_ROOM])
+    return (in_place(captions, i, Caption(caption.start, caption.stop, lines)), [len(lines)])
+
+
+def can_be_split(caption, t, j):
+    return caption.start < t and t < caption.stop and 0 < j and j < len(caption.lines)
+
+
+def split(captions, i, t, j):
+    if i >= len(captions):
+        return (captions, [NO_SUCH_CAPTION])
+    caption = captions[i]
+    if not can_be_split(caption, t, j):
+        return (captions, [NOT_POSSIBLE])
+    if len(captions) == MOST_CAPTIONS:
+        return (captions, [NO_ROOM])
+    first = Caption(caption.start, t, caption.lines[:j])
+    second = Caption(t, caption.stop, caption.lines[j:])
+    return put_in(in_place(captions, i, first), second)
+
+
+def join(captions, i):
+    if i + 1 >= len(captions):
+        return (captions, [NO_SUCH_CAPTION])
+    first = captions[i]
+    second = captions[i + 1]
+    lines = first.lines + second.lines
+    if len(lines) > MOST_LINES:
+        return (captions, [NO_ROOM])
+    both = Caption(first.start, max(first.stop, second.stop), lines)
+    return (captions[:i] + [both] + captions[i + 2:], [0])
+
+
+def apart(captions, g):
+    if g >= TIMES_END:
+        return (captions, [NOT_ALLOWED])
+    changed = list(captions)
+    number = 0
+    for i in range(len(captions) - 1):
+        caption = captions[i]
+        latest = captions[i + 1].start - g
+        if caption.stop > latest:
+            changed[i] = Caption(caption.start, latest, caption.lines)
+            number = number + 1
+    return take_times(captions, changed, number)
